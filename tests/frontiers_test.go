@@ -436,29 +436,8 @@ func TestEpochOver(t *testing.T) {
 	}
 }
 
-// spare is what the capacity behind a list holds; it is below every stamp of the lists, so that a function which reads it is found out too.
+// spare is what the capacity behind a list of stamps holds; it is below every stamp of the lists, so that a function which reads it is found out too.
 var spare = impl.Stamp{Epoch: -50, Turn: -50}
-
-// roomyList returns a list that is a part of a larger array: filled with spare stamps behind it.
-func roomyList(list []impl.Stamp) []impl.Stamp {
-	roomy := slices.Clone(list)
-	for range len(list) + 4 {
-		roomy = append(roomy, spare)
-	}
-	return roomy[:len(list)]
-}
-
-func untouched(roomy []impl.Stamp, list []impl.Stamp) bool {
-	whole := roomy[:2*len(list)+4]
-	return slices.Equal(whole[:len(list)], list) && !slices.ContainsFunc(whole[len(list):], func(s impl.Stamp) bool { return s != spare })
-}
-
-// overwrite changes a list and the capacity behind it.
-func overwrite(list []impl.Stamp, s impl.Stamp) {
-	for at := range list[:cap(list)] {
-		list[:cap(list)][at] = s
-	}
-}
 
 func listsForMemory() [][]impl.Stamp {
 	return [][]impl.Stamp{
@@ -489,11 +468,7 @@ func TestFrontiersDoNotChangeTheirLists(t *testing.T) {
 				{"EpochOver", func(a []impl.Stamp, b []impl.Stamp) { impl.EpochOver(a, 1) }},
 			}
 			for _, c := range calls {
-				roomyA, roomyB := roomyList(a), roomyList(b)
-				c.call(roomyA, roomyB)
-				if !untouched(roomyA, a) || !untouched(roomyB, b) {
-					t.Errorf("%s changed the memory of %v or %v", c.name, a, b)
-				}
+				checkUnchanged(t, c.name, a, b, spare, c.call)
 			}
 		}
 	}
@@ -511,19 +486,7 @@ func TestFrontiersShareNoMemoryWithTheirLists(t *testing.T) {
 				{"MergeFronts", impl.MergeFronts},
 			}
 			for _, r := range results {
-				roomyA, roomyB := roomyList(a), roomyList(b)
-				overwrite(r.of(roomyA, roomyB), mark)
-				if !untouched(roomyA, a) || !untouched(roomyB, b) {
-					t.Errorf("the result of %s is in the memory of %v or %v", r.name, a, b)
-				}
-				first, second := r.of(roomyA, roomyB), r.of(roomyA, roomyB)
-				kept := slices.Clone(first)
-				overwrite(second, mark)
-				overwrite(roomyA, mark)
-				overwrite(roomyB, mark)
-				if !slices.Equal(first, kept) {
-					t.Errorf("the result of %s at %v and %v changed later", r.name, a, b)
-				}
+				checkNewMemory(t, r.name, a, b, spare, mark, r.of)
 			}
 		}
 	}
